@@ -13,8 +13,11 @@ class HeldGroup:
         # The group's bytes, once it is complete.
         self.content = []
 
+    def still_wanted(self):
+        return self.shape.n - len(self.rows)
+
     def complete(self):
-        return len(self.rows) == self.shape.n
+        return self.still_wanted() == 0
 
     # What take answers of a packet of this group.
     def hold(self, packet):

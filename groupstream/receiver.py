@@ -8,6 +8,8 @@ CUT = 0
 LAY = 1
 TAKE = 2
 NEXT = 3
+JUMP = 4
+MISSING = 5
 
 
 def answers(calls):
@@ -49,7 +51,12 @@ class Line:
             return [self.receiver.take(call[1], call[3:])]
         if call[0] == NEXT:
             return self.receiver.hand_on(call[1], call[2])
-        raise NotImplementedError("jump, missing and clock are not built yet")
+        if call[0] == JUMP:
+            return [self.receiver.jump(call[1])]
+        if call[0] == MISSING:
+            return self.receiver.missing(call[1])
+        # Nothing but clock is left.
+        return self.receiver.clock_time(call[1])
 
     def lay(self, wait):
         if wait > WAIT_MOST:

@@ -1,8 +1,8 @@
-"""The receiver: what it holds, and what take and next do with it."""
+"""The receiver: what it holds, and what take, next, jump, missing and clock do with it."""
 
 from groupstream.clock import Points
 from groupstream.held import HeldGroup
-from groupstream.limits import GROUPS_HELD, TIME_END
+from groupstream.limits import GROUP_END, GROUPS_HELD, TIME_END
 from groupstream.packet import read_packet
 from groupstream.parts import part_at
 
@@ -13,7 +13,7 @@ class Receiver:
         # The document's next: the number of the group that's due; and how many of its bytes are handed on.
         self.due = 0
         self.place = 0
-        # Held groups by number. None is before due: going one on lets the due one go.
+        # Held groups by number. None is before due: going on lets them go.
         self.groups = {}
         # far_number is None while far is nothing; it is never below due.
         self.far_number = None
@@ -86,9 +86,39 @@ class Receiver:
         return len(times) > 0 and min(times) + self.wait <= now
 
     def go_one_on(self):
-        if self.due in self.groups:
-            self.groups.pop(self.due)
-        self.due += 1
+        self.go_on_to(self.due + 1)
+
+    def go_on_to(self, number):
+        for group in list(self.groups):
+            if group < number:
+                self.groups.pop(group)
+        self.due = number
         self.place = 0
-        if self.far_number is not None and self.far_number < self.due:
+        if self.far_number is not None and self.far_number < number:
             self.far_number = None
+
+    # The call jump.
+    def jump(self, number):
+        # One above the last group's number is allowed: there next is when that group has gone, too.
+        if number <= self.due or number > GROUP_END:
+            return -1
+        self.go_on_to(number)
+        return 0
+
+    # The call missing, with its answer as a list of numbers.
+    def missing(self, number):
+        if number not in self.groups:
+            return [-2]
+        group = self.groups[number]
+        return [0, group.still_wanted(), len(group.rows)] + sorted(group.rows)
+
+    # The call clock, with its answer as a list of numbers.
+    def clock_time(self, t):
+        if t >= TIME_END:
+            return [-1]
+        found = self.points.receiver_time(t)
+        if found is None:
+            return [-2]
+        if found < 0:
+            return [-3]
+        return [0, found]

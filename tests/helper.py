@@ -2,8 +2,12 @@
 package, and a second receiver, written from the document in another way, to hold the first against.
 """
 
+import math
+from fractions import Fraction
+
 from groupstream.receiver import answers
 
+GROUP_END = 2 ** 32
 TIME_END = 2 ** 50
 GREATEST = 2 ** 53 - 1
 FAR_OFF = 16
@@ -25,6 +29,18 @@ def take(now, packet):
 
 def hand(now, room=2000):
     return [3, now, room]
+
+
+def jump(group):
+    return [4, group]
+
+
+def missing(group):
+    return [5, group]
+
+
+def clock(t):
+    return [6, t]
 
 
 def told(calls):
@@ -137,6 +153,53 @@ def one_packet(group, octets=None, sent=0):
     return packets(octets, group=group, s=max(1, len(octets)), k=0, sent=sent)[0]
 
 
+# The clock, by trying all that could be the line
+
+def counting(came):
+    """Of all points (x, d) in the order in which they came those that count."""
+    by_number = {}
+    for x, d in came:
+        by_number.setdefault(x // 131072, []).append((x, d))
+    greatest = sorted(by_number, reverse=True)[:64]
+    return [min(by_number[number], key=lambda point: point[1]) for number in greatest]
+
+
+def above_or_on(points, p, q):
+    """Whether none of the points lies below the line through p and q, p left of q."""
+    rise, run = q[1] - p[1], q[0] - p[0]
+    return all((d - p[1]) * run >= rise * (x - p[0]) for x, d in points)
+
+
+def clock_line(came):
+    """Slope and height at 0 of the line; None without a point."""
+    points = counting(came)
+    if not points:
+        return None
+    if len(points) == 1:
+        return Fraction(0), Fraction(points[0][1])
+    ends = min(points)[0] + max(points)[0]
+    lefts = [point for point in points if 2 * point[0] < ends]
+    rights = [point for point in points if 2 * point[0] >= ends]
+    lines = set()
+    for p in lefts:
+        for q in rights:
+            if above_or_on(points, p, q):
+                slope = Fraction(q[1] - p[1], q[0] - p[0])
+                lines.add((slope, p[1] - slope * p[0]))
+    assert len(lines) == 1, lines
+    return lines.pop()
+
+
+def clock_answer(came, t):
+    if t >= TIME_END:
+        return [-1]
+    line = clock_line(came)
+    if line is None:
+        return [-2]
+    exact = t + line[0] * t + line[1]
+    return [0, math.floor(exact)] if exact >= 0 else [-3]
+
+
 # A second receiver: it keeps all that came and works out of it anew whatever is asked
 
 class Model:
@@ -154,6 +217,7 @@ class Model:
         self.place = 0
         self.stored = []
         self.beyond = []
+        self.points = []
         return [0]
 
     def of_group(self, group):
@@ -164,7 +228,7 @@ class Model:
         return bool(entries) and len(entries) == entries[0]["shape"][0]
 
     def take(self, now, packet):
-        """packet: None for what is no packet, else a dict of group, which, shape."""
+        """packet: None for what is no packet, else a dict of group, which, shape, sent."""
         if not self.laid:
             return [-9]
         if now >= TIME_END:
@@ -172,6 +236,7 @@ class Model:
         if packet is None:
             return [-2]
         entry = dict(packet, now=now)
+        self.points.append((entry["sent"], now - entry["sent"]))
         if entry["group"] < self.due:
             return [2]
         if entry["group"] >= self.due + FAR_OFF:
@@ -186,7 +251,10 @@ class Model:
         return [0]
 
     def go_on(self):
-        self.due += 1
+        self.go_to(self.due + 1)
+
+    def go_to(self, group):
+        self.due = group
         self.place = 0
         if all(entry["group"] < self.due for entry in self.beyond):
             self.beyond = []
@@ -225,3 +293,23 @@ class Model:
             return [-7] + head
         self.place += 13 + size
         return [1] + head + list(rest[13:13 + size])
+
+    def jump(self, group):
+        if not self.laid:
+            return [-9]
+        if group <= self.due or group > GROUP_END:
+            return [-1]
+        self.go_to(group)
+        return [0]
+
+    def missing(self, group):
+        if not self.laid:
+            return [-9]
+        entries = self.of_group(group)
+        if group < self.due or not entries:
+            return [-2]
+        held = sorted(entry["which"] for entry in entries)
+        return [0, entries[0]["shape"][0] - len(held), len(held)] + held
+
+    def clock(self, t):
+        return clock_answer(self.points, t) if self.laid else [-9]
